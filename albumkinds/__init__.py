@@ -1,0 +1,1 @@
+"""All kinds: how many draws it takes till each kind is there."""
