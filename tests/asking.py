@@ -1,13 +1,19 @@
 """Lines of calls written by name, their answers call by call, and other ways of counting."""
 
 from fractions import Fraction
-from itertools import combinations, product
+from itertools import combinations, permutations, product
 
 from albumkinds.album import answers
 
 BEGIN = (0,)
 MEAN = (4,)
 HALF = (8,)
+BEST = (11,)
+EVEN = (12,)
+NEXT = (13,)
+LACKING = (14,)
+RAREST = (15,)
+TOLD = (17,)
 
 GREATEST = 4294967295
 
@@ -34,6 +40,18 @@ def allby(n):
 
 def at(n):
     return (7, n)
+
+
+def last(i):
+    return (9, i)
+
+
+def worth(i):
+    return (10, i)
+
+
+def more(w):
+    return (16, w)
 
 
 def flat(calls):
@@ -77,6 +95,18 @@ def as_told(fraction):
     return [0, fraction.numerator, fraction.denominator]
 
 
+def as_fraction(told):
+    zero, above, below = told
+    if zero != 0:
+        raise ValueError(f"{told} is no fraction")
+    return Fraction(above, below)
+
+
+def without(count, had):
+    """The kinds of so many that are lacking, rising."""
+    return [i for i in range(count) if i not in had]
+
+
 def choices(count):
     """Every choice of so many kinds, as a tuple of numbers, rising."""
     for size in range(count + 1):
@@ -104,6 +134,30 @@ def allby_by_choices(weights, had, n):
     """How likely no kind is left out, out of how likely each choice is left out."""
     total = sum(weights)
     return sum(sign * Fraction(total - part, total) ** n for sign, part in sums_of_lacking(weights, had))
+
+
+def orders_of_lacking(weights, had):
+    """Every order in which the lacking kinds may come: how likely it is, its mean number of draws, itself."""
+    for order in permutations(without(len(weights), had)):
+        likely = Fraction(1)
+        draws = Fraction(0)
+        for place in range(len(order)):
+            still_lacking = sum(weights[i] for i in order[place:])
+            likely *= Fraction(weights[order[place]], still_lacking)
+            draws += Fraction(sum(weights), still_lacking)
+        yield likely, draws, order
+
+
+def last_by_orders(weights, had, kind):
+    return sum(likely for likely, draws, order in orders_of_lacking(weights, had) if order[-1] == kind)
+
+
+def mean_by_orders(weights, had):
+    return sum(likely * draws for likely, draws, order in orders_of_lacking(weights, had))
+
+
+def worth_by_orders(weights, had, kind):
+    return mean_by_orders(weights, had) - mean_by_orders(weights, (*had, kind))
 
 
 def ends_by_rows(weights, had, most):

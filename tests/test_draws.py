@@ -1,11 +1,11 @@
-"""Point 3: allby, at, half."""
+"""Point 3: allby, at, half, next."""
 
 import unittest
 from fractions import Fraction
 from itertools import product
 
-from asking import (BEGIN, GREATEST, HALF, allby, allby_by_choices, as_told, ask, ask_of, at, choices, ends_by_rows,
-                    got, lost)
+from asking import (BEGIN, GREATEST, HALF, NEXT, allby, allby_by_choices, as_told, ask, ask_of, at, choices,
+                    ends_by_rows, got, kind, lost)
 
 SIX_KINDS = ((1, 1, 1, 1, 1, 1), (1, 20, 20, 20, 20, 20), (20, 1, 1, 1, 1, 1), (7, 11, 13, 17, 19, 20))
 SOME_HAD = ((), (0,), (5,), (1, 3), (0, 2, 4), (1, 2, 3, 4, 5), (0, 1, 2, 3, 4), (0, 1, 2, 3, 4, 5))
@@ -137,6 +137,39 @@ class Half(unittest.TestCase):
                     while allby_by_choices(weights, had, least) < Fraction(1, 2):
                         least += 1
                     self.assertEqual(ask_of(weights, had, HALF), [[least]])
+
+
+class Next(unittest.TestCase):
+    def test_no_kinds(self):
+        self.assertEqual(ask(BEGIN, NEXT), [[0], [-6]])
+        self.assertEqual(ask_of((3,), (), BEGIN, NEXT), [[0], [-6]])
+
+    def test_one_kind(self):
+        self.assertEqual(ask_of((20,), (), NEXT, got(0), NEXT, lost(0), NEXT),
+                         [[0, 1, 1], [0], [0, 0, 1], [1], [0, 1, 1]])
+
+    def test_all_or_nothing_lacking(self):
+        self.assertEqual(ask_of((1, 20, 3), (), NEXT), [[0, 1, 1]])
+        self.assertEqual(ask_of((1, 20, 3), (0, 1, 2), NEXT), [[0, 0, 1]])
+
+    def test_by_hand(self):
+        self.assertEqual(ask_of((1, 20), (1,), NEXT), [[0, 1, 21]])
+        self.assertEqual(ask_of((1, 20), (0,), NEXT), [[0, 20, 21]])
+        self.assertEqual(ask_of((2, 4, 6), (1,), NEXT, got(0), NEXT, kind(12), NEXT),
+                         [[0, 2, 3], [1], [0, 1, 2], [3], [0, 3, 4]])
+
+    def test_draw_by_draw(self):
+        for weights in SIX_KINDS:
+            for had in choices(6):
+                drawn = [i for i, w in enumerate(weights) for time in range(w)]
+                new = [i for i in drawn if i not in had]
+                self.assertEqual(ask_of(weights, had, NEXT), [as_told(Fraction(len(new), len(drawn)))])
+
+    def test_with_one_lacking_is_as_all_there_behind_one_draw(self):
+        for missing in range(6):
+            had = [i for i in range(6) if i != missing]
+            asked = ask_of((7, 11, 13, 17, 19, 20), had, NEXT, allby(1))
+            self.assertEqual(asked[0], asked[1])
 
 
 if __name__ == "__main__":
